@@ -1,0 +1,1 @@
+"""Narcissus: programs that read programs."""
