@@ -17,7 +17,7 @@ def is_tree(value):
 
 
 def end_of(signs, start):
-    """Return the index behind the tree that begins at start, and one beyond all signs if it is cut off."""
+    """Return the index behind the tree that begins at start, or one beyond all signs if the tree is cut off."""
     at = start
     wanted = 1
     # As many trees as are wanted have at least as many signs, so these can be read
