@@ -3,8 +3,10 @@
 Usage: python3 .ci/language.py FOLDER
 
 Checked are the files (L1, L14), the sizes (L10), the characters (L14), the imports
-(L2, L16), the builtins (L8) and the names that would hide one (L15). Each fault is
-printed with its file, line and rule; the exit code is 1 if there is one.
+(L2, L16), the builtins (L8), the names that would hide one, an import or a class (L15),
+names and words that are barred (L17), floats and divisions (L7), and % and escapes in
+strings (L27). Each fault is printed with its file, line and rule; the exit code is 1
+if there is one.
 """
 
 import ast
@@ -45,6 +47,15 @@ CALLED = ("getattr", "hasattr", "iter", "map", "next", "setattr")
 DECORATORS = ("classmethod", "property", "staticmethod")
 BUILTINS = tuple(sorted(dir(builtins)))
 
+# L17: what is no name anywhere, and what is neither a name nor a word in a string.
+BARRED_NAMES = (
+    "add_note", "elements", "input", "law", "mro", "open", "register", "version_info", "with_traceback",
+)
+BARRED_WORDS = (
+    "ABC", "ABCMeta", "Enum", "Flag", "Generic", "IntEnum", "IntFlag", "NamedTuple", "Protocol", "StrEnum",
+    "TYPE_CHECKING", "TypedDict", "abstractmethod", "enum", "namedtuple", "typing", "typing_extensions",
+)
+
 # What no file or folder may be called, beside test_.. and law_.. (L14, L17).
 BARRED_FILES = BUILTINS + (
     "add_note", "conftest", "elements", "input", "law", "mro", "open", "register", "site", "sitecustomize",
@@ -68,6 +79,9 @@ def faults_of(folder):
         faults += [(path, *fault) for fault in size_faults(data.decode("utf-8"), trees[path])]
         faults += [(path, *fault) for fault in builtin_faults(trees[path], path.name)]
         faults += [(path, *fault) for fault in binding_faults(trees[path])]
+        faults += [(path, *fault) for fault in hiding_faults(trees[path])]
+        faults += [(path, *fault) for fault in word_faults(trees[path])]
+        faults += [(path, *fault) for fault in value_faults(data.decode("utf-8"), trees[path])]
     faults += import_faults(folder, trees)
     return sorted(faults, key=lambda fault: (str(fault[0]), fault[1], fault[2], fault[3]))
 
@@ -319,6 +333,75 @@ def bound_names(node):
     if isinstance(node, (ast.ExceptHandler, ast.MatchAs, ast.MatchStar)):
         return [node.name] if node.name else []
     return []
+
+
+def hiding_faults(tree):
+    """Find the names inside of functions that are those of imports or classes of the file."""
+    taken = set()
+    for node in tree.body:
+        if isinstance(node, (ast.Import, ast.ImportFrom)):
+            taken.update(alias.asname or alias.name for alias in node.names)
+        if isinstance(node, ast.ClassDef):
+            taken.add(node.name)
+    methods = [node for kind in ast.walk(tree) if isinstance(kind, ast.ClassDef) for node in kind.body]
+    for node in ast.walk(tree):
+        if isinstance(node, ast.alias) or node in tree.body or node in methods:
+            continue
+        for name in bound_names(node):
+            if name in taken:
+                yield getattr(node, "lineno", 1), "L15", f"{name} is the name of an import or a class of the file"
+
+
+# L7, L17, L27: names, words and values.
+
+def word_faults(tree):
+    written = docstrings(tree)
+    for node in ast.walk(tree):
+        names = used_names(node)
+        for name in names:
+            if name in BARRED_NAMES:
+                yield getattr(node, "lineno", 1), "L17", f"the name {name}"
+        if isinstance(node, ast.Constant) and isinstance(node.value, str) and node not in written:
+            names = re.findall("[A-Za-z0-9_]+", node.value)
+        for name in names:
+            if name in BARRED_WORDS or re.search("dataclass|overload|contextmanager", name):
+                yield getattr(node, "lineno", 1), "L17", f"the word {name}"
+
+
+def used_names(node):
+    """Return the names that a node binds or reads."""
+    if isinstance(node, ast.Name):
+        return [node.id]
+    if isinstance(node, ast.Attribute):
+        return [node.attr]
+    if isinstance(node, ast.keyword):
+        return [node.arg] if node.arg else []
+    return bound_names(node)
+
+
+def docstrings(tree):
+    """Return the nodes of the docstrings."""
+    kinds = (ast.Module, ast.ClassDef, ast.FunctionDef)
+    heads = [node.body[0] for node in ast.walk(tree) if isinstance(node, kinds) and node.body]
+    return [head.value for head in heads if is_docstring(head)]
+
+
+def value_faults(source, tree):
+    written = docstrings(tree)
+    for node in ast.walk(tree):
+        if isinstance(node, (ast.BinOp, ast.AugAssign)) and isinstance(node.op, (ast.Div, ast.MatMult)):
+            yield node.lineno, "L7", "a sign that is not allowed"
+        if not isinstance(node, ast.Constant):
+            continue
+        if isinstance(node.value, (float, complex)):
+            yield node.lineno, "L7", "a number that is no integer"
+        if isinstance(node.value, str):
+            if "%" in node.value and node not in written:
+                yield node.lineno, "L27", "a string with %"
+            # Parts of an f-string have the place of the whole in Python 3.11, which does no harm here.
+            signs = re.sub(r"\\[nt\\'\"]", "", ast.get_source_segment(source, node) or "")
+            if "\\" in signs:
+                yield node.lineno, "L27", "an escape that is not allowed"
 
 
 def main(words):

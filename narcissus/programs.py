@@ -26,11 +26,16 @@ def is_program(value):
     for index, instruction in enumerate(value):
         if not _has_shape(instruction, index, len(value)):
             return False
-    trees = [instruction[2] for instruction in value if instruction[0] == "set"]
+    trees = trees_of(value)
     # The lengths come first, so that no more than MOST_TREE characters are ever read.
     if sum([len(tree) for tree in trees]) > MOST_TREE:
         return False
     return all([is_tree(tree) for tree in trees])
+
+
+def trees_of(program):
+    """Return the trees that the instructions of a program hold."""
+    return [instruction[2] for instruction in program if instruction[0] == "set"]
 
 
 def _has_shape(value, index, count):

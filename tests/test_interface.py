@@ -15,6 +15,13 @@ FUNCTIONS = {
         "first_state": ["x"], "step": ["program", "state"], "run": ["program", "x", "steps"],
         "after": ["program", "x", "steps"],
     },
+    "building": {
+        "constant": ["tree"], "chain": ["programs"], "both": ["first", "second"],
+        "choice": ["condition", "first", "second"], "loop": ["condition", "body"],
+    },
+    "filling": {"filled": ["program", "tree"], "filler": []},
+    "universe": {"universal": [], "tower": ["programs", "x"]},
+    "knowing": {"knowing": ["program"], "bearer": ["program"], "fixed_point": ["program"], "myself": []},
 }
 
 CONSTANTS = {"trees": {"MOST_TREE": 200000}, "programs": {"MOST_CODE": 600, "REGISTERS": 20}}

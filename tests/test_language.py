@@ -145,13 +145,14 @@ class Checker(unittest.TestCase):
             [],
         )
         calls = (
-            "print(x)", "open(x)", "input()", "eval(x)", "exec(x)", "hash(x)", "id(x)", "chr(x)", "round(x)",
+            "print(x)", "eval(x)", "exec(x)", "hash(x)", "id(x)", "chr(x)", "round(x)",
             "filter(None, x)", "format(x)", "hex(x)", "globals()", "vars(x)", "dir(x)", "callable(x)", "float(x)",
             "object()", "bytearray(x)", "complex(x)", "slice(x)", "ascii(x)", "issubclass(x, x)", "__import__(x)",
             "type(x)", "[map]", "[type]", "[super]", "getattr", "[NotImplemented]", "__name__", "OSError(x)",
             "TimeoutError", "staticmethod(x)", "memoryview(x)", "compile(x)", "delattr(x, x)", "exit()", "Ellipsis",
         )
         self.assert_rows([f"def f(x):\n    return {call}\n" for call in calls], ["L8"])
+        self.assert_rows(["def f(x):\n    return open(x)\n", "def f():\n    return input()\n"], ["L17", "L8"])
 
     def test_names_of_builtins(self):
         rows = (
@@ -163,6 +164,33 @@ class Checker(unittest.TestCase):
             "def f(x):\n    match x:\n        case sum:\n            return 1\n",
         )
         self.assert_rows(rows, ["L15"])
+
+    def test_names_of_imports_and_classes(self):
+        start = "from plum.low import Bad, half\n\n\nclass Box:\n    def half(self):\n        return half(4)\n\n\n"
+        self.assert_rows([start + "def f(x):\n    third = half(x)\n    return third\n"], [])
+        rows = (
+            "def f(half):\n    return 1\n", "def f():\n    Box = 1\n    return 2\n",
+            "def f(xs):\n    return [1 for half in xs]\n", "def f():\n    def half(x):\n        return x\n    return 1\n",
+            "def f(xs):\n    for Bad in xs:\n        return 1\n",
+        )
+        self.assert_rows([start + row for row in rows], ["L15"])
+
+    def test_barred_names_and_words(self):
+        rows = (
+            "def f(x):\n    return x.register\n", "def mro():\n    return 1\n", "def f(law):\n    return 1\n",
+            "def f(x):\n    return f(x, elements=1)\n", "class A:\n    def add_note(self):\n        return 1\n",
+            "def f():\n    return 'an enum here'\n", "def f(x):\n    return x.Flag\n", "X = 'my_dataclass'\n",
+            "def f(x):\n    return f'{x} is Generic'\n",
+        )
+        self.assert_rows(rows, ["L17"])
+        self.assert_rows(['"""An enum, register, 100 %."""\nX = "registers"  # typing\n'], [])
+
+    def test_values(self):
+        rows = ("X = 1.5\n", "def f(x):\n    return x / 2\n", "def f(x):\n    x /= 2\n    return x\n", "X = 2j\n")
+        self.assert_rows(rows, ["L7"])
+        rows = ("X = '5 %'\n", "def f(x):\n    return f'{x} %'\n", "X = '\\r'\n", "X = '\\x41'\n", "X = '\\u20ac'\n")
+        self.assert_rows(rows, ["L27"])
+        self.assert_rows([r"X = '\n\t\\\'\"'" + "\n", "def f(x):\n    return x // 2 + x % 2\n"], [])
 
 
 if __name__ == "__main__":

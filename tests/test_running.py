@@ -6,6 +6,7 @@ from narcissus.errors import Ended, OutOfSteps, TooLarge
 from narcissus.programs import parse
 from narcissus.running import after, first_state, run, step
 from narcissus.trees import cons, head, items_of, list_of, number, tail
+from samples import DOUBLE, FOREVER, REVERSE, random_program
 
 IN_TAILS = "10" * 99999 + "0"
 IN_HEADS = "1" * 99999 + "0" * 100000
@@ -13,32 +14,16 @@ BY_TURNS = "110" * 49999 + "100" + "0" * 49999
 DEEP = (IN_TAILS, IN_HEADS, BY_TURNS)
 LEAVES = ("0",) * 20
 
-# Gives the mirror image of a list of trees back.
-REVERSE = parse("set 19 100; jump 0 2; jump 19 5; head 2 0; cons 1 2 1; tail 0 0; jump 19 -5; move 0 1")
 # Counts how often the tail, or the head, can be taken.
 COUNT_TAILS = parse("set 19 100; jump 0 2; jump 19 4; tail 0 0; cons 1 2 1; jump 19 -4; move 0 1")
 COUNT_HEADS = parse("set 19 100; jump 0 2; jump 19 4; head 0 0; cons 1 2 1; jump 19 -4; move 0 1")
 COUNT_TURNS = parse(
     "set 19 100; jump 0 2; jump 19 6; head 0 0; cons 1 2 1; tail 0 0; cons 1 2 1; jump 19 -6; move 0 1"
 )
-# Doubles the register 0 until that is too large: 1, 3, 7, ... characters.
-DOUBLE = parse("set 1 100; cons 0 0 0; jump 1 -1")
-FOREVER = parse("set 1 100; jump 1 0")
 
 
 def registers_with(found):
     return tuple(found.get(at, "0") for at in range(20))
-
-
-def random_program(chance, count):
-    program = []
-    for index in range(count):
-        a, b, c = (chance.randrange(4) for _ in range(3))
-        program.append(chance.choice([
-            ("set", a, chance.choice(["0", "100", "11000", "1100100"])), ("move", a, b), ("cons", a, b, c),
-            ("head", a, b), ("tail", a, b), ("jump", a, chance.randint(-index, count - index)),
-        ]))
-    return program
 
 
 def outcome(function, *arguments):
