@@ -3,10 +3,11 @@
 Usage: python3 .ci/language.py FOLDER
 
 Checked are the files (L1, L14), the sizes (L10), the characters (L14), the imports
-(L2, L16), the builtins (L8), the names that would hide one, an import or a class (L15),
-names and words that are barred (L17), floats and divisions (L7), and % and escapes in
-strings (L27). Each fault is printed with its file, line and rule; the exit code is 1
-if there is one.
+(L2, L16), what stands at module level (L3), the statements (L6), the builtins (L8), the
+names that are bound twice at module level or would hide a builtin, an import or a class
+(L15), names and words that are barred (L17), floats and divisions (L7), the methods that
+are called (L25), and % and escapes in strings (L27). Each fault is printed with its file,
+line and rule; the exit code is 1 if there is one.
 """
 
 import ast
@@ -56,6 +57,17 @@ BARRED_WORDS = (
     "TYPE_CHECKING", "TypedDict", "abstractmethod", "enum", "namedtuple", "typing", "typing_extensions",
 )
 
+# L25, and what L2, L7 and L24 add for deques, bytes and sets.
+METHODS = (
+    "append", "clear", "copy", "count", "endswith", "extend", "find", "get", "index", "insert", "isalnum", "isalpha",
+    "isdigit", "islower", "isspace", "isupper", "items", "join", "keys", "ljust", "lower", "lstrip", "partition",
+    "pop", "remove", "replace", "reverse", "rfind", "rjust", "rpartition", "rsplit", "rstrip", "setdefault", "split",
+    "splitlines", "startswith", "strip", "update", "upper", "values", "zfill", "bit_length", "title", "capitalize",
+    "swapcase", "casefold", "center", "expandtabs", "removeprefix", "removesuffix", "rindex", "isascii", "isdecimal",
+    "isnumeric", "istitle", "isidentifier", "isprintable", "translate", "maketrans", "sort", "format", "encode",
+    "decode", "hex", "from_bytes", "add", "discard", "appendleft", "popleft", "extendleft", "rotate", "from_iterable",
+)
+
 # What no file or folder may be called, beside test_.. and law_.. (L14, L17).
 BARRED_FILES = BUILTINS + (
     "add_note", "conftest", "elements", "input", "law", "mro", "open", "register", "site", "sitecustomize",
@@ -77,12 +89,15 @@ def faults_of(folder):
             faults.append((path, getattr(error, "lineno", None) or 1, "L1", "is no Python"))
             continue
         faults += [(path, *fault) for fault in size_faults(data.decode("utf-8"), trees[path])]
+        faults += [(path, *fault) for fault in module_faults(trees[path], path.name)]
+        faults += [(path, *fault) for fault in statement_faults(trees[path])]
         faults += [(path, *fault) for fault in builtin_faults(trees[path], path.name)]
         faults += [(path, *fault) for fault in binding_faults(trees[path])]
         faults += [(path, *fault) for fault in hiding_faults(trees[path])]
         faults += [(path, *fault) for fault in word_faults(trees[path])]
         faults += [(path, *fault) for fault in value_faults(data.decode("utf-8"), trees[path])]
     faults += import_faults(folder, trees)
+    faults += method_faults(trees)
     return sorted(faults, key=lambda fault: (str(fault[0]), fault[1], fault[2], fault[3]))
 
 
@@ -261,6 +276,80 @@ def leads_to(ways, start, goal):
             seen.add(path)
             waiting += ways.get(path, [])
     return False
+
+
+# L3, L6, L15: what stands at module level, and statements.
+
+def module_faults(tree, file_name):
+    functions = []
+    bound = []
+    for node in tree.body:
+        if isinstance(node, (ast.Import, ast.ImportFrom)) or node is tree.body[0] and is_docstring(node):
+            names = [bound_names(alias)[0] for alias in getattr(node, "names", [])]
+        elif isinstance(node, (ast.FunctionDef, ast.ClassDef)):
+            names = [node.name]
+            functions += names if isinstance(node, ast.FunctionDef) else []
+        elif file_name == "__main__.py" and node is tree.body[-1] and isinstance(node, ast.If):
+            names = []
+        else:
+            names = plainly_assigned(node, functions)
+            if not names:
+                yield node.lineno, "L3", "no plain value that is assigned to one name"
+        yield from ((node.lineno, "L15", f"{name} is bound twice") for name in names if name in bound)
+        bound += names
+
+
+def plainly_assigned(node, functions):
+    """Return the one name that a statement gives a plain value, in a list, or an empty list."""
+    targets = getattr(node, "targets", [getattr(node, "target", None)])
+    if not isinstance(node, (ast.Assign, ast.AnnAssign)) or len(targets) != 1 or not isinstance(targets[0], ast.Name):
+        return []
+    return [targets[0].id] if is_plain(node.value, functions, inside=False) else []
+
+
+def is_plain(node, functions, inside=True):
+    if isinstance(node, ast.Constant):
+        return True
+    if isinstance(node, ast.Name):
+        return inside and node.id in functions
+    if isinstance(node, ast.UnaryOp):
+        return is_plain(node.operand, functions, inside=False)
+    if isinstance(node, ast.BinOp):
+        return is_plain(node.left, functions, inside=False) and is_plain(node.right, functions, inside=False)
+    if isinstance(node, (ast.List, ast.Tuple)):
+        return all(is_plain(item, functions) for item in node.elts)
+    if isinstance(node, ast.Dict):
+        return all(is_plain(item, functions) for item in node.keys + node.values)
+    return False
+
+
+def statement_faults(tree):
+    for node in ast.walk(tree):
+        if isinstance(node, (ast.AsyncFunctionDef, ast.AsyncFor, ast.AsyncWith, ast.Await)):
+            yield node.lineno, "L6", "async"
+        if isinstance(node, ast.Expr) and not isinstance(node.value, (ast.Call, ast.Yield, ast.YieldFrom)):
+            if not is_docstring(node):
+                yield node.lineno, "L6", "an expression that does nothing"
+        if isinstance(node, ast.ExceptHandler) and node.type is None:
+            yield node.lineno, "L6", "except without an error"
+
+
+def method_faults(trees):
+    """Find the calls of methods that are neither the package's own nor among those that may be called."""
+    own = set()
+    for node in (node for tree in trees.values() for node in ast.walk(tree)):
+        if isinstance(node, ast.FunctionDef):
+            own.add(node.name)
+        if isinstance(node, ast.Attribute) and not isinstance(node.ctx, ast.Load):
+            own.add(node.attr)
+    for path, tree in trees.items():
+        for node in ast.walk(tree):
+            if not isinstance(node, ast.Call) or not isinstance(node.func, ast.Attribute):
+                continue
+            name = node.func.attr
+            known = name in METHODS or name in own or name == "__init__"
+            if not known and not (path.name == "__main__.py" and name in ("exit", "read", "readline", "write", "flush")):
+                yield path, node.lineno, "L25", f"the method {name}"
 
 
 # L8, L15: builtins.

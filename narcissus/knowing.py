@@ -1,15 +1,15 @@
 """Programs that know their own code."""
 
-from narcissus.parts import MOST_WIDTH, cleaning, greatest_width, within_limits
+from narcissus.parts import CODE_OF_FIRST, MOST_WIDTH, cleaning, greatest_width, within_limits
 from narcissus.programs import code
-from narcissus.trees import LEAF, number
+from narcissus.trees import LEAF
 from narcissus.universe import universal
 
 
 def knowing(program):
     """Return a program that returns on x what the program returns on the tree of its own code and x."""
     greatest_width([program])
-    return with_own_code([("cons", 0, 1, 0), ("set", 1, LEAF), *program])
+    return beside_own_code(program)
 
 
 def myself():
@@ -42,6 +42,11 @@ def fixed_point(program):
     ])
 
 
+def beside_own_code(program):
+    """Return what knowing returns, for a program of any width."""
+    return with_own_code([("cons", 0, 1, 0), ("set", 1, LEAF), *program])
+
+
 def with_own_code(program):
     """Return a program that does what the program does, but begins with its own code in register 1.
 
@@ -49,10 +54,7 @@ def with_own_code(program):
     the code of the first one, and put it in front.
     """
     others = [
-        # The code of ("set", 1, tree): register 3 is the leaf, and so the number 0.
-        ("set", 2, number(1)),
-        ("cons", 2, 2, 1),
-        ("cons", 2, 3, 2),
+        *CODE_OF_FIRST,
         ("cons", 1, 2, 1),
         ("set", 2, LEAF),
         *program,

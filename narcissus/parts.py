@@ -7,6 +7,10 @@ from narcissus.trees import LEAF, MOST_TREE
 # Wider programs would leave too few registers to those that are made of them.
 MOST_WIDTH = 16
 
+# At the beginning of a program, behind ("set", 1, tree), these put the code of that
+# instruction into register 2. Register 3 is the leaf there, and so the number 0.
+CODE_OF_FIRST = (("set", 2, "100"), ("cons", 2, 2, 1), ("cons", 2, 3, 2))
+
 
 def greatest_width(programs):
     """Return the greatest width of some programs, or 1 if there are none, unless one of them is too wide."""

@@ -22,9 +22,21 @@ FUNCTIONS = {
     "filling": {"filled": ["program", "tree"], "filler": []},
     "universe": {"universal": [], "tower": ["programs", "x"]},
     "knowing": {"knowing": ["program"], "bearer": ["program"], "fixed_point": ["program"], "myself": []},
+    "rings": {"together": ["programs"], "ring": ["count"]},
+    "defeats": {
+        "says_yes": ["decider", "program", "steps"], "defeat": ["decider", "yes", "no"], "liar": ["program"],
+    },
+    "order": {
+        "count": ["pairs"], "rank": ["tree"], "unrank": ["number"], "following": ["tree"],
+        "padded": ["program", "many"], "programs_up_to": ["most"],
+    },
+    "claims": {"is_claim": ["value"], "is_shown": ["claim"], "claim_text": ["claim"], "read_claim": ["line"]},
 }
 
-CONSTANTS = {"trees": {"MOST_TREE": 200000}, "programs": {"MOST_CODE": 600, "REGISTERS": 20}}
+CONSTANTS = {
+    "trees": {"MOST_TREE": 200000}, "programs": {"MOST_CODE": 600, "REGISTERS": 20}, "rings": {"MOST_RING": 8},
+    "order": {"MOST_PAIRS": 30, "MOST_LISTED": 8},
+}
 
 
 class Interface(unittest.TestCase):

@@ -97,17 +97,18 @@ class Checker(unittest.TestCase):
                 "from math import floor\n", "from math import gcd as g\n", "from collections import Counter\n",
                 "from itertools import cycle\n", "from random import random\n", "from time import time\n",
                 "import math\n", "from heapq import *\n", "from pluma.low import half\n",
-                "if True:\n    from plum.low import half\n",
             ],
             ["L2"],
         )
+        self.assert_rows(["if True:\n    from plum.low import half\n"], ["L2", "L3"])
         self.assert_rows(
             [
                 "from plum.low import third\n", "from plum import low\n", "from plum.missing import half\n",
-                "from plum.high import half\n", "from plum.new import f\n\n\ndef f():\n    return 1\n",
+                "from plum.high import half\n",
             ],
             ["L16"],
         )
+        self.assert_rows(["from plum.new import f\n\n\ndef f():\n    return 1\n"], ["L15", "L16"])
 
     def test_import_of_main(self):
         main = "import sys\nfrom plum.low import half\n\n\ndef main():\n    print(half(4))\n"
@@ -128,6 +129,47 @@ class Checker(unittest.TestCase):
         )
         self.assertEqual(self.faults({"__init__.py": "from plum.low import half\n"}), [])
         self.assertEqual(self.faults({"__init__.py": "from plum.high import quarter\n"}), ["L16"])
+
+    def test_module_level(self):
+        self.assert_rows(
+            [
+                '"""Words."""\nX = 1\nY = -1\nZ = "ab" * 3\nW: int = 4\n', "X = [1, (2, None), {'a': True}]\nY = ()\n",
+                "def f():\n    return 1\n\n\nX = {'a': f}\nY = [f, (f, 2)]\n", "X = 1 << 4\n",
+            ],
+            [],
+        )
+        rows = (
+            "X, Y = 1, 2\n", "X = Y = 1\n", "X = [1, *(2, 3)]\n", "X = {**{}}\n", "X = f()\n\n\ndef f():\n    return 1\n",
+            "X = {'a': f}\n\n\ndef f():\n    return 1\n", "X = 1\nY = (X, 2)\n", "X = [k for k in (1, 2)]\n",
+            "def f():\n    return 1\n\n\nX = f\n", "X = lambda k: k\n", "X = 1\nX += 1\n", "for k in (1, 2):\n    pass\n",
+            "if True:\n    X = 1\n", "X = {1, 2}\n", "X = 1 if True else 2\n", "X = (1, 2)[0]\n", "pass\n", "assert True\n",
+            "from plum.low import half\nX = [half]\n",
+        )
+        self.assert_rows(rows, ["L3"])
+        rows = ("X = 1\nX = 2\n", "def f():\n    return 1\n\n\nf = 2\n", "from plum.low import half\n\n\nhalf = 2\n")
+        self.assert_rows(rows, ["L15"])
+
+    def test_statements(self):
+        rows = (
+            "def f(x):\n    x == 1\n    return x\n", "def f(x):\n    x\n", "def f(x):\n    x.n\n",
+            "def f(x):\n    try:\n        return x[0]\n    except:\n        return 1\n", "def f(x):\n    async def g():\n        return x\n    return 1\n",
+        )
+        self.assert_rows(rows, ["L6"])
+        self.assert_rows(['def f(xs):\n    """Words."""\n    xs.append(1)\n    f(xs)\n', "def f(x):\n    yield x\n"], [])
+
+    def test_methods(self):
+        self.assert_rows(
+            [
+                "def f(x):\n    return ' '.join(x.split(',')) + x.upper()\n", "def f(xs):\n    return xs.index(1) + xs.count(2)\n",
+                "class A:\n    def low(self):\n        return 1\n\n\ndef f(a):\n    return a.low()\n",
+                "class A:\n    def __init__(self, f):\n        self.act = f\n\n    def go(self):\n        return self.act()\n",
+                "class A:\n    def __init__(self):\n        super().__init__()\n",
+            ],
+            [],
+        )
+        calls = ("x.symmetric_difference(x)", "x.popitem()", "x.format_map(x)", "x.union(x)", "x.fromkeys(x)", "x.__len__()",
+                 "x.isdisjoint(x)", "x.most_common()", "x.low()")
+        self.assert_rows([f"def f(x):\n    return {call}\n" for call in calls], ["L25"])
 
     def test_builtins(self):
         self.assert_rows(
